@@ -1,0 +1,1 @@
+"""Picked ways, primes in them and free places of their rows, by figures and carries."""
